@@ -1,0 +1,1 @@
+"""Short labels that fit one source of a library alone."""
