@@ -1,7 +1,7 @@
 """Names, persons, titles, sources and libraries."""
 
 from sourcelabels.basics import is_integer_from, is_letters
-from sourcelabels.errors import InvalidLibrary, InvalidName, InvalidSource
+from sourcelabels.errors import InvalidIndex, InvalidLibrary, InvalidName, InvalidSource
 
 LONGEST_NAME = 12
 LONGEST_TITLE = 40
@@ -55,6 +55,12 @@ def check_library(value):
     """Raise InvalidLibrary for any value that is no library."""
     if not is_library(value):
         raise InvalidLibrary()
+
+
+def check_index(library, value):
+    """Raise InvalidIndex for any value that is no index of a source of a library."""
+    if not is_integer_from(value, 0) or value >= len(library):
+        raise InvalidIndex()
 
 
 def sorted_library(library):

@@ -9,12 +9,31 @@ LIBRARY = (TIDES, WAVES, WIND, RAIN)
 ONE = ((("smith", ""),), True, 2020, None, "")
 TWO = ((("smith", "j."), ("brown", "")), True, 2020, None, "")
 
+STYLE = (2, 1, ("names", "first initial", "title"))
+
+# The library of the example of section 5.
+THREE = ((("smith", "jo"), ("brown", "ann"), ("lee", "may")), 2020, "on tides")
+LATER = ((("smith", "jo"),), 2021, "on rain")
+SHELF = (THREE, WAVES, WIND, LATER)
+
 NUMBERS = (0, 1, 25, 26, 2020, 10 ** 39, 10 ** 40 - 1)
+
+
+class EqualToAll:
+    """A value that claims to be equal to any other one."""
+
+    def __eq__(self, other):
+        return True
+
+    def __hash__(self):
+        return 0
+
 
 # Values that are neither a number from 0 on, nor letters, nor a tuple of anything that the package knows.
 STRANGE = (
     None, True, False, -1, -10 ** 39, 0.0, 1.5, float("nan"), 2j, "A", "a b-", "\u00e4", "\u0661", b"a", b"",
     [], ["a"], {}, {"a": 1}, set(), frozenset(), object(), int, len, range(3), iter([]), (None,), ((),), (((),),),
+    EqualToAll(), (EqualToAll(),),
 )
 
 
@@ -94,3 +113,23 @@ def spoiled_labels():
     spoiled += [replaced(ONE, 3, value) for value in spoiled_titles()]
     spoiled += [replaced(ONE, 4, value) for value in (None, "A", "a b", " ", "1", "\u00e4", b"a", 0, ("a",), ["a"])]
     return spoiled + [ONE[:4], ONE + ("",), list(ONE), (), ONE[0], TIDES, (ONE,), "smith 2020"]
+
+
+def spoiled_styles():
+    """Values that are no styles, each with one wrong part."""
+    spoiled = [replaced(STYLE, 0, value) for value in (0, -1, True, False, None, "2", 2.0, (2,), [2], -10 ** 39)]
+    spoiled += [replaced(STYLE, 1, value) for value in (0, -1, 3, True, False, None, "1", 1.0, (1,), 10 ** 39)]
+    steps = [
+        [], ["names"], "names", "", None, 0, {}, {"names"}, {"names": 1}, ("names", "names"), ("all", "title", "all"),
+        ("Names",), ("name",), ("names ",), ("",), (" ",), ("first",), ("firstinitial",), ("first  initial",),
+        ("initial",), ("et al.",), (None,), (1,), (True,), (b"names",), (("names",),), (["names"],), ({},),
+        ("names", "title", None), ("names", "x", "title"), (EqualToAll(),),
+    ]
+    spoiled += [replaced(STYLE, 2, value) for value in steps]
+    return spoiled + [STYLE[:2], STYLE + ((),), list(STYLE), (), (STYLE,), (1,), STYLE[2], TIDES, "most 2, kept 1"]
+
+
+def spoiled_indexes(library):
+    """Values that are no indexes of a source of a library."""
+    many = len(library)
+    return [-1, -many - 1, many, many + 1, 10 ** 39, True, False, None, "0", 0.0, (0,), [0], {}, library[:1], 2j]

@@ -1,33 +1,58 @@
 import copy
 import doctest
 import inspect
+import pathlib
+import time
 import unittest
 
-from samples import LIBRARY, ONE, TIDES, TWO
-from sourcelabels import labels, letters, sources
+import near
+from samples import LIBRARY, ONE, SHELF, STYLE, THREE, TIDES, TWO, WAVES
+from sourcelabels import changes, groups, labels, letters, needs, sources, styles
 
+BARE = (1, 1, ("initials",))
+SAME = tuple([((("smith", "jo"),), 2020, title) for title in ("on c", "on a", "on b")])
+NEW = ((("smith", "jo"),), 2020, "on aa")
+
+# The functions of the interface with arguments, in the order of their parameters.
 INTERFACE = (
-    (letters, "letters_of", ["number"]),
-    (letters, "number_of", ["letters"]),
-    (sources, "is_source", ["value"]),
-    (sources, "is_library", ["value"]),
-    (sources, "sorted_library", ["library"]),
-    (sources, "places_by_name", ["library", "family"]),
-    (sources, "years_of", ["library"]),
-    (labels, "is_label", ["value"]),
-    (labels, "fits", ["label", "source"]),
-    (labels, "narrower", ["label", "other"]),
-    (labels, "fitting", ["library", "label"]),
-    (labels, "common", ["label", "other"]),
-    (labels, "outside", ["label", "other"]),
+    (letters, "letters_of", {"number": 5}),
+    (letters, "number_of", {"letters": "f"}),
+    (sources, "is_source", {"value": TIDES}),
+    (sources, "is_library", {"value": LIBRARY}),
+    (sources, "sorted_library", {"library": LIBRARY}),
+    (sources, "places_by_name", {"library": LIBRARY, "family": "smith"}),
+    (sources, "years_of", {"library": LIBRARY}),
+    (labels, "is_label", {"value": ONE}),
+    (labels, "fits", {"label": ONE, "source": TIDES}),
+    (labels, "narrower", {"label": ONE, "other": TWO}),
+    (labels, "fitting", {"library": LIBRARY, "label": ONE}),
+    (labels, "common", {"label": ONE, "other": TWO}),
+    (labels, "outside", {"label": ONE, "other": TWO}),
+    (styles, "is_style", {"value": STYLE}),
+    (styles, "states", {"style": STYLE, "people": 3}),
+    (styles, "path", {"style": STYLE, "source": THREE}),
+    (needs, "need", {"style": STYLE, "source": THREE, "other": WAVES}),
+    (needs, "place_of", {"style": STYLE, "library": SHELF, "index": 0}),
+    (needs, "label_of", {"style": BARE, "library": SAME, "index": 1}),
+    (needs, "labels", {"style": BARE, "library": SAME}),
+    (needs, "reason", {"style": STYLE, "library": SHELF, "index": 0}),
+    (needs, "forced_by", {"style": STYLE, "library": SHELF, "index": 0}),
+    (needs, "lookup", {"style": STYLE, "library": SHELF, "label": ((("smith", ""),), False, 2020, None, "")}),
+    (needs, "printing", {"style": BARE, "library": SAME}),
+    (needs, "stale", {"style": BARE, "library": SAME}),
+    (groups, "letter_groups", {"style": BARE, "library": SAME + (WAVES,)}),
+    (groups, "without_letters", {"style": BARE, "library": SAME + (WAVES,)}),
+    (groups, "plain", {"style": STYLE, "library": SHELF}),
+    (changes, "coming", {"style": BARE, "library": SAME, "source": NEW}),
+    (changes, "leaving", {"style": BARE, "library": SAME, "index": 1}),
+    (changes, "is_quiet", {"style": BARE, "library": SAME, "source": NEW}),
+    (changes, "joining", {"style": BARE, "library": SAME, "other": (NEW, SAME[0])}),
+    (changes, "settled", {"style": (1, 1, ("given", "title")), "library": SAME}),
+    (changes, "can_become", {"style": STYLE, "library": SHELF, "index": 0}),
+    (changes, "newcomer", {"style": STYLE, "library": SHELF, "index": 0, "place": 3}),
 )
 
-VALUES = {
-    "number": 5, "letters": "f", "value": TIDES, "library": LIBRARY, "family": "smith", "label": ONE, "other": TWO,
-    "source": TIDES,
-}
-
-EXAMPLE = """
+LABELS_EXAMPLE = """
 >>> from sourcelabels.letters import letters_of, number_of
 >>> from sourcelabels.labels import common, fits, narrower, outside
 >>> [letters_of(k) for k in (0, 25, 26, 27)]
@@ -48,6 +73,49 @@ False
 True
 """
 
+# The values of the texts are written out.
+NEEDS_EXAMPLE = """
+>>> from sourcelabels.needs import labels, printing, reason, stale
+>>> from sourcelabels.styles import path, states
+>>> s = (2, 1, ('names', 'first initial', 'title'))
+>>> states(s, 3)
+[(1, 0, 0, False), (2, 0, 0, False), (3, 0, 0, False), (3, 1, 0, False), (3, 1, 0, True)]
+>>> tides = ((('smith', 'jo'), ('brown', 'ann'), ('lee', 'may')), 2020, 'on tides')
+>>> waves = ((('smith', 'al'), ('brown', 'ann'), ('king', 'bo')), 2020, 'on waves')
+>>> b = (tides, waves, ((('smith', 'jo'),), 2020, 'on wind'), ((('smith', 'jo'),), 2021, 'on rain'))
+>>> labels(s, b)[0]
+((('smith', ''), ('brown', ''), ('lee', '')), False, 2020, None, '')
+>>> labels(s, b)[1]
+((('smith', ''), ('brown', ''), ('king', '')), False, 2020, None, '')
+>>> labels(s, b)[2:]
+[((('smith', ''),), False, 2020, None, ''), ((('smith', ''),), False, 2021, None, '')]
+>>> path(s, b[0])[:2]
+[((('smith', ''),), True, 2020, None, ''), ((('smith', ''), ('brown', '')), True, 2020, None, '')]
+>>> [reason(s, b, k) for k in (0, 1, 2)]
+[1, 0, None]
+>>> list(printing(s, b))[0]
+(((('smith', ''),), True, 2020, None, ''), [])
+>>> list(printing(s, b))[1]
+(((('smith', ''), ('brown', ''), ('king', '')), False, 2020, None, ''), [0])
+>>> stale(s, b)
+[0]
+"""
+
+
+def whole(answer):
+    """An answer, or the list of all that a generator yields."""
+    return list(answer) if inspect.isgenerator(answer) else answer
+
+
+def call(module, name, arguments):
+    return whole(getattr(module, name)(*arguments.values()))
+
+
+def lists_in(value):
+    """All lists in an answer, at any depth."""
+    inner = [found for part in value for found in lists_in(part)] if isinstance(value, (list, tuple)) else []
+    return inner + [value] if isinstance(value, list) else inner
+
 
 class Conventions(unittest.TestCase):
     """[1], [2] and the interface, for all functions at once."""
@@ -57,42 +125,50 @@ class Conventions(unittest.TestCase):
             self.assertEqual(getattr(module, name).__module__, module.__name__)
 
     def test_names_and_order_of_the_arguments(self):
-        for module, name, parameters in INTERFACE:
-            self.assertEqual(list(inspect.signature(getattr(module, name)).parameters), parameters)
+        for module, name, arguments in INTERFACE:
+            self.assertEqual(list(inspect.signature(getattr(module, name)).parameters), list(arguments))
 
     def test_arguments_by_position_or_by_name(self):
-        for module, name, parameters in INTERFACE:
+        for module, name, arguments in INTERFACE:
             function = getattr(module, name)
-            values = [VALUES[parameter] for parameter in parameters]
-            by_name = {parameter: VALUES[parameter] for parameter in parameters}
-            self.assertEqual(function(*values), function(**by_name))
+            backwards = {parameter: arguments[parameter] for parameter in reversed(arguments)}
+            self.assertEqual(whole(function(**backwards)), call(module, name, arguments))
 
     def test_arguments_do_not_change(self):
-        for module, name, parameters in INTERFACE:
-            values = [VALUES[parameter] for parameter in parameters]
-            before = copy.deepcopy(values)
-            getattr(module, name)(*values)
-            self.assertEqual(values, before)
+        for module, name, arguments in INTERFACE:
+            before = copy.deepcopy(arguments)
+            call(module, name, arguments)
+            self.assertEqual(arguments, before)
 
     def test_wrong_arguments_do_not_change(self):
-        for function in (sources.is_source, sources.is_library, labels.is_label):
+        for function in (sources.is_source, sources.is_library, labels.is_label, styles.is_style):
             value = [list(TIDES), {"a": [1]}]
             function(value)
             function((value,))
+            function((2, 1, value))
             self.assertEqual(value, [list(TIDES), {"a": [1]}])
 
+    def test_returned_lists_are_new(self):
+        for module, name, arguments in INTERFACE:
+            answers = [call(module, name, arguments) for _ in range(2)]
+            lists = lists_in(answers[0]) + lists_in(answers[1])
+            self.assertEqual(len(set([id(found) for found in lists])), len(lists), name)
+
     def test_results_do_not_depend_on_earlier_calls(self):
-        for module, name, parameters in INTERFACE:
-            values = [VALUES[parameter] for parameter in parameters]
-            first = getattr(module, name)(*values)
+        for module, name, arguments in INTERFACE:
+            first = call(module, name, arguments)
             known = copy.deepcopy(first)
-            second = getattr(module, name)(*values)
+            second = call(module, name, arguments)
             self.assertEqual(second, known)
-            if isinstance(first, list):
-                self.assertIsNot(first, second)
-                first.append("x")
-                self.assertEqual(second, known)
-                self.assertEqual(getattr(module, name)(*values), known)
+            for found in lists_in(first):
+                found.append("x")
+            self.assertEqual(second, known)
+            self.assertEqual(call(module, name, arguments), known)
+
+    def test_the_arguments_above_tell_something(self):
+        """An empty answer could not show that lists are new."""
+        for module, name, arguments in INTERFACE:
+            self.assertNotIn(call(module, name, arguments), ([], None), name)
 
 
 class Limits(unittest.TestCase):
@@ -115,16 +191,55 @@ class Limits(unittest.TestCase):
         self.assertIs(labels.narrower(label, other), False)
         self.assertIs(labels.fits(label, labels.outside(label, other)), True)
 
+    def test_styles_and_libraries_at_the_limits(self):
+        library, shelf = near.large_library(40), near.large_library(60)
+        for style in near.LARGE_STYLES:
+            for index in (0, 17, 39):
+                self.assertIn(needs.label_of(style, library, index)[:4] + ("",), styles.path(style, library[index]))
+                self.assertNotIn(index, needs.forced_by(style, library, index))
+                self.assertNotEqual(needs.reason(style, library, index), index)
+                path = styles.path(style, library[index])
+                self.assertEqual(changes.can_become(style, library, index)[-1], path[-1])
+                self.assertNotIn(changes.newcomer(style, library, index, len(path) - 1), library)
+            self.assertEqual(changes.coming(style, shelf[:59], shelf[59]),
+                             changes.joining(style, shelf[:59], shelf[:1] + shelf[59:]))
+            self.assertEqual([(k, new, old) for k, old, new in changes.leaving(style, shelf, 59)],
+                             changes.coming(style, shelf[:59], shelf[59]))
+
+    def test_each_value_of_printing_in_a_moment(self):
+        start = time.monotonic()
+        for style in near.LARGE_STYLES:
+            library = near.large_library(60)
+            self.assertEqual(len(list(needs.printing(style, library))), 60)
+            self.assertLess(len(needs.stale(style, library)), 60)
+        self.assertLess(time.monotonic() - start, 20)
+
+    def test_sources_with_many_people(self):
+        source, other = [(tuple([("a", "b")] * many), 10 ** 39, "t") for many in (59, 60)]
+        self.assertEqual(len(styles.path((1, 1, ("names",)), other)), 60)
+        self.assertEqual(needs.need((1, 1, ("names",)), other, source), 58)
+        self.assertEqual(needs.need((12, 12, ("all",)), source, other), 1)
+
 
 class Example(unittest.TestCase):
-    """The example of section 4."""
+    """The examples of the document and of README.md."""
 
-    def test_the_example(self):
-        test = doctest.DocTestParser().get_doctest(EXAMPLE, {}, "section 4", None, None)
+    def check(self, text, name, many):
+        test = doctest.DocTestParser().get_doctest(text, {}, name, None, None)
         told = []
         result = doctest.DocTestRunner().run(test, out=told.append)
         self.assertEqual(result.failed, 0, "".join(told))
-        self.assertEqual(result.attempted, 11)
+        self.assertEqual(result.attempted, many)
+
+    def test_section_4(self):
+        self.check(LABELS_EXAMPLE, "section 4", 11)
+
+    def test_section_5(self):
+        self.check(NEEDS_EXAMPLE, "section 5", 15)
+
+    def test_the_readme(self):
+        text = pathlib.Path(__file__).parent.parent.joinpath("README.md").read_text(encoding="utf-8")
+        self.check(text, "README.md", 13)
 
 
 if __name__ == "__main__":

@@ -2,6 +2,7 @@ import itertools
 import unittest
 
 import samples
+from reading import fits as told_fits
 from samples import LIBRARY, NUMBERS, ONE, STRANGE, TIDES, TWO, WAVES, WIND, replaced
 from sourcelabels.errors import InvalidLabel, InvalidLibrary, InvalidSource
 from sourcelabels.labels import common, fits, fitting, is_label, narrower, outside
@@ -12,21 +13,6 @@ WRONG_LABELS = list(STRANGE) + samples.spoiled_labels()
 
 def label_of(*shown, more=False, year=2020, title=None, letters=""):
     return (shown, more, year, title, letters)
-
-
-def told_fits(label, source):
-    """[6] word by word."""
-    shown, more, year, title, _ = label
-    people, source_year, source_title = source
-    if year != source_year or title not in (None, source_title):
-        return False
-    if len(people) <= len(shown) if more else len(people) != len(shown):
-        return False
-    for index, (family, part) in enumerate(shown):
-        given = people[index][1]
-        if family != people[index][0] or part not in ("", given[0] + ".", given):
-            return False
-    return True
 
 
 class Kinds(unittest.TestCase):
