@@ -3,7 +3,7 @@
 from sourcelabels.basics import is_integer_from
 from sourcelabels.errors import InvalidNumber, SameSource
 from sourcelabels.labels import full_label, outside
-from sourcelabels.places import check_styled, check_styled_index, labels_of, needs_of
+from sourcelabels.places import check_styled, check_styled_index, labels_of, needs_of, tail_of
 from sourcelabels.sources import check_library, check_source
 from sourcelabels.styles import path_of
 
@@ -58,9 +58,7 @@ def settled(style, library):
 def can_become(style, library, index):
     """The list of all labels, without letters, that the source with this index can have once sources have come."""
     check_styled_index(style, library, index)
-    path = path_of(style, library[index])
-    place = max(needs_of(path, library, index))
-    return path[min(place, len(path) - 1):]
+    return tail_of(style, library, index)
 
 
 def newcomer(style, library, index, place):

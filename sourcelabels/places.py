@@ -51,6 +51,13 @@ def places_of(paths, library):
     return [max(needs) for needs in needs_table(paths, library)]
 
 
+def tail_of(style, library, index):
+    """The list of the labels of the source with this index from its place on; for the place None, the last one."""
+    path = path_of(style, library[index])
+    place = max(needs_of(path, library, index))
+    return path[min(place, len(path) - 1):]
+
+
 def or_none(number, path):
     """A need or a place as it is told: None instead of the length of the path."""
     return None if number == len(path) else number

@@ -59,6 +59,33 @@ def cases():
             for k, library in enumerate(libraries()) for more in range(6)]
 
 
+def around(source):
+    """Sources that differ from a source, or not, in each person, in their number and in the title."""
+    people, year, title = source
+    choices = [[(family, given), (family, given + "x"), (family, "z" + given), (family + "x", given)]
+               for family, given in people]
+    found = []
+    for many in range(1, len(people) + 1):
+        found += list(itertools.product(*choices[:many]))
+    found += [told + (("q", "q"),) * more for told in itertools.product(*choices) for more in (1, 2)]
+    return [(told, year, name) for told in found for name in (title, title + "x")]
+
+
+def strangers(source):
+    """Other sources, fewer than those around, that differ in the first given name, in all others, in the last families.
+    """
+    people, year, title = source
+    changes = (lambda given: given, lambda given: given + "x", lambda given: "z" + given)
+    found = []
+    for many in range(max(len(people) - 1, 1), len(people) + 2):
+        known = (people + people[-1:])[:many]
+        for same, first, rest in itertools.product(range(many + 1), changes, changes):
+            told = [(family if k < same else family + "x", (rest if k else first)(given))
+                    for k, (family, given) in enumerate(known)]
+            found += [(tuple(told), year, name) for name in (title, title + "x")]
+    return [other for other in dict.fromkeys(found) if other != source]
+
+
 def large_library(many=40):
     """Sources with eight people that differ only in the given name of the last one, in its initial or in the title."""
     ahead = tuple([("smith", "jo")] * 7)

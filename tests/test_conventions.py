@@ -7,9 +7,12 @@ import unittest
 
 import near
 from samples import LIBRARY, ONE, SHELF, STYLE, THREE, TIDES, TWO, WAVES
-from sourcelabels import changes, groups, labels, letters, needs, sources, styles
+from sourcelabels import (
+    alike, changes, errors, groups, labels, letters, needs, orders, shapes, sources, styles, texts,
+)
 
 BARE = (1, 1, ("initials",))
+FLAT = (2, 1, ("all", "first initial", "names", "title"))
 SAME = tuple([((("smith", "jo"),), 2020, title) for title in ("on c", "on a", "on b")])
 NEW = ((("smith", "jo"),), 2020, "on aa")
 
@@ -50,6 +53,29 @@ INTERFACE = (
     (changes, "settled", {"style": (1, 1, ("given", "title")), "library": SAME}),
     (changes, "can_become", {"style": STYLE, "library": SHELF, "index": 0}),
     (changes, "newcomer", {"style": STYLE, "library": SHELF, "index": 0, "place": 3}),
+    (orders, "old_in", {"style": STYLE, "library": SHELF, "order": [3, 1, 2, 0]}),
+    (orders, "fewest_old", {"style": STYLE, "library": SHELF}),
+    (orders, "good_order", {"style": STYLE, "library": SHELF}),
+    (alike, "alike", {"style": STYLE, "other": FLAT, "people": 1}),
+    (alike, "never_longer", {"style": STYLE, "other": FLAT, "people": 3}),
+    (alike, "alike_behind", {"style": STYLE, "other": FLAT, "library": SHELF}),
+    (alike, "difference", {"style": STYLE, "other": FLAT, "people": 3}),
+    (alike, "longer_library", {"style": FLAT, "other": STYLE, "people": 3}),
+    (alike, "idle_steps", {"style": FLAT, "people": 3}),
+    (alike, "trimmed", {"style": FLAT, "people": 3}),
+    (alike, "least_apart", {"style": STYLE, "other": FLAT}),
+    (shapes, "shapes", {"source": THREE}),
+    (shapes, "alone", {"library": SHELF, "index": 0}),
+    (shapes, "widest_alone", {"library": SHELF, "index": 0}),
+    (shapes, "shortest", {"library": SHELF, "index": 0}),
+    (texts, "format_label", {"label": TWO}),
+    (texts, "format_source", {"source": THREE}),
+    (texts, "format_style", {"style": STYLE}),
+    (texts, "format_library", {"library": SHELF}),
+    (texts, "parse_label", {"text": "j. smith, brown et al. 2020"}),
+    (texts, "parse_source", {"text": "smith jo; 2020; on wind"}),
+    (texts, "parse_style", {"text": "most 2, kept 1: names"}),
+    (texts, "parse_library", {"lines": ["smith jo; 2020; on wind", "smith jo; 2021; on rain"]}),
 )
 
 LABELS_EXAMPLE = """
@@ -73,32 +99,36 @@ False
 True
 """
 
-# The values of the texts are written out.
 NEEDS_EXAMPLE = """
+>>> from sourcelabels.texts import format_label, parse_library, parse_style
 >>> from sourcelabels.needs import labels, printing, reason, stale
 >>> from sourcelabels.styles import path, states
->>> s = (2, 1, ('names', 'first initial', 'title'))
+>>> s = parse_style('most 2, kept 1: names, first initial, title')
 >>> states(s, 3)
 [(1, 0, 0, False), (2, 0, 0, False), (3, 0, 0, False), (3, 1, 0, False), (3, 1, 0, True)]
->>> tides = ((('smith', 'jo'), ('brown', 'ann'), ('lee', 'may')), 2020, 'on tides')
->>> waves = ((('smith', 'al'), ('brown', 'ann'), ('king', 'bo')), 2020, 'on waves')
->>> b = (tides, waves, ((('smith', 'jo'),), 2020, 'on wind'), ((('smith', 'jo'),), 2021, 'on rain'))
->>> labels(s, b)[0]
-((('smith', ''), ('brown', ''), ('lee', '')), False, 2020, None, '')
->>> labels(s, b)[1]
-((('smith', ''), ('brown', ''), ('king', '')), False, 2020, None, '')
->>> labels(s, b)[2:]
-[((('smith', ''),), False, 2020, None, ''), ((('smith', ''),), False, 2021, None, '')]
->>> path(s, b[0])[:2]
-[((('smith', ''),), True, 2020, None, ''), ((('smith', ''), ('brown', '')), True, 2020, None, '')]
+>>> b = parse_library(['smith jo, brown ann, lee may; 2020; on tides', 'smith al, brown ann, king bo; 2020; on waves', 'smith jo; 2020; on wind', 'smith jo; 2021; on rain'])
+>>> [format_label(x) for x in labels(s, b)]
+['smith, brown, lee 2020', 'smith, brown, king 2020', 'smith 2020', 'smith 2021']
+>>> [format_label(x) for x in path(s, b[0])][:2]
+['smith et al. 2020', 'smith, brown et al. 2020']
 >>> [reason(s, b, k) for k in (0, 1, 2)]
 [1, 0, None]
->>> list(printing(s, b))[0]
-(((('smith', ''),), True, 2020, None, ''), [])
->>> list(printing(s, b))[1]
-(((('smith', ''), ('brown', ''), ('king', '')), False, 2020, None, ''), [0])
+>>> [(format_label(x), changed) for x, changed in printing(s, b)][:2]
+[('smith et al. 2020', []), ('smith, brown, king 2020', [0])]
 >>> stale(s, b)
 [0]
+"""
+
+ALIKE_EXAMPLE = """
+>>> from sourcelabels.alike import alike, difference, idle_steps, least_apart, trimmed
+>>> s = (3, 1, ('names', 'first initial', 'all'))
+>>> t = (3, 1, ('all', 'first initial'))
+>>> [alike(s, t), alike(s, t, 3), least_apart(s, t)]
+[False, True, 4]
+>>> len(difference(s, t))
+2
+>>> [idle_steps(s), trimmed(s)]
+[[2], (3, 1, ('names', 'first initial'))]
 """
 
 
@@ -147,6 +177,13 @@ class Conventions(unittest.TestCase):
             function((value,))
             function((2, 1, value))
             self.assertEqual(value, [list(TIDES), {"a": [1]}])
+        for function, value in ((texts.parse_library, ["x", "smith jo; 2020; a"]), (texts.parse_label, ["smith 2020"])):
+            before = list(value)
+            self.assertRaises(errors.InvalidText, function, value)
+            self.assertEqual(value, before)
+        order = [3, 2, 1, 1]
+        self.assertRaises(errors.InvalidOrder, orders.old_in, STYLE, SHELF, order)
+        self.assertEqual(order, [3, 2, 1, 1])
 
     def test_returned_lists_are_new(self):
         for module, name, arguments in INTERFACE:
@@ -235,11 +272,14 @@ class Example(unittest.TestCase):
         self.check(LABELS_EXAMPLE, "section 4", 11)
 
     def test_section_5(self):
-        self.check(NEEDS_EXAMPLE, "section 5", 15)
+        self.check(NEEDS_EXAMPLE, "section 5", 11)
+
+    def test_section_9(self):
+        self.check(ALIKE_EXAMPLE, "section 9", 6)
 
     def test_the_readme(self):
         text = pathlib.Path(__file__).parent.parent.joinpath("README.md").read_text(encoding="utf-8")
-        self.check(text, "README.md", 13)
+        self.check(text, "README.md", 21)
 
 
 if __name__ == "__main__":
