@@ -36,10 +36,14 @@ def shortest(library, index):
 
 def shapes_of(source):
     """Shapes, for a source that is known to be one."""
-    states = [(many, first, rest, title) for many in range(1, len(source[0]) + 1)
-              for first in LEVELS for rest in LEVELS for title in (False, True)]
     # The keys of a dict keep their order, and each stands once.
-    return list({label_by(state, source): True for state in states})
+    return list({label_by(state, source): True for state in states_of(source)})
+
+
+def states_of(source):
+    """The list of all states that a source can be in, ascending."""
+    return [(many, first, rest, title) for many in range(1, len(source[0]) + 1)
+            for first in LEVELS for rest in LEVELS for title in (False, True)]
 
 
 def holds_any(label, others):

@@ -6,9 +6,11 @@ import time
 import unittest
 
 import near
+from reading import labels as labels_of
 from samples import LIBRARY, ONE, SHELF, STYLE, THREE, TIDES, TWO, WAVES
 from sourcelabels import (
-    alike, changes, errors, groups, labels, letters, needs, orders, shapes, sources, styles, texts,
+    alike, changes, errors, groups, kinds, labels, learning, letters, live, needs, objects, orders, shapes, sources,
+    styles, texts,
 )
 
 BARE = (1, 1, ("initials",))
@@ -68,6 +70,10 @@ INTERFACE = (
     (shapes, "alone", {"library": SHELF, "index": 0}),
     (shapes, "widest_alone", {"library": SHELF, "index": 0}),
     (shapes, "shortest", {"library": SHELF, "index": 0}),
+    (learning, "gives", {"style": BARE, "library": SAME, "told": labels_of(BARE, SAME)}),
+    (learning, "styles_for", {"library": SAME, "told": labels_of(BARE, SAME), "most": 2}),
+    (learning, "first_style", {"library": SAME, "told": labels_of(BARE, SAME), "most": 2}),
+    (learning, "count_styles", {"library": SAME, "told": labels_of(BARE, SAME), "most": 2}),
     (texts, "format_label", {"label": TWO}),
     (texts, "format_source", {"source": THREE}),
     (texts, "format_style", {"style": STYLE}),
@@ -76,6 +82,21 @@ INTERFACE = (
     (texts, "parse_source", {"text": "smith jo; 2020; on wind"}),
     (texts, "parse_style", {"text": "most 2, kept 1: names"}),
     (texts, "parse_library", {"lines": ["smith jo; 2020; on wind", "smith jo; 2021; on rain"]}),
+)
+
+# The classes of the interface with the parameters of their constructors, their methods, their properties.
+CLASSES = (
+    (objects, "Label", ["label"],
+     {"__call__": ["source"], "__contains__": None, "__and__": None, "__eq__": None, "__len__": None}, ["label"]),
+    (objects, "Library", ["style", "library"],
+     {"__call__": ["source"], "__add__": None, "__eq__": None, "__len__": None, "__contains__": None},
+     ["style", "library"]),
+    (live, "LiveLibrary", ["style", "library"],
+     {"come": ["source"], "go": ["index"], "undo": [], "try_changes": ["changes"], "told_words": [], "__len__": [],
+      "read": ["style_text"], "is_valid": ["value"]}, ["library_now", "labels_now"]),
+    (kinds, "StrictLibrary", ["style", "library"], {"told_words": []}, []),
+    (kinds, "BoundedLibrary", ["style", "library", "most"], {"told_words": []}, []),
+    (kinds, "StrictBoundedLibrary", ["style", "library", "most"], {}, []),
 )
 
 LABELS_EXAMPLE = """
@@ -129,6 +150,25 @@ ALIKE_EXAMPLE = """
 2
 >>> [idle_steps(s), trimmed(s)]
 [[2], (3, 1, ('names', 'first initial'))]
+"""
+
+
+LIVE_EXAMPLE = """
+>>> from sourcelabels.texts import parse_label, parse_source, parse_style
+>>> from sourcelabels.objects import Label, Library
+>>> from sourcelabels.live import LiveLibrary
+>>> Label(parse_label('smith et al. 2020'))(parse_source('smith jo, brown ann; 2020; on tides'))
+True
+>>> s = parse_style('most 2, kept 1: first initial')
+>>> live = LiveLibrary(s)
+>>> live.come(parse_source('smith jo; 2020; on tides'))
+0
+>>> live.come(parse_source('smith al; 2020; on waves'))
+1
+>>> live.labels_now[0]
+((('smith', 'j.'),), False, 2020, None, '')
+>>> live.undo()
+'come'
 """
 
 
@@ -208,6 +248,47 @@ class Conventions(unittest.TestCase):
             self.assertNotIn(call(module, name, arguments), ([], None), name)
 
 
+class Classes(unittest.TestCase):
+    """The classes of the interface."""
+
+    def test_classes_are_defined_in_their_files(self):
+        for module, name, _, _, _ in CLASSES:
+            self.assertEqual(getattr(module, name).__module__, module.__name__)
+
+    def test_constructors(self):
+        for module, name, parameters, _, _ in CLASSES:
+            found = inspect.signature(getattr(module, name)).parameters
+            self.assertEqual(list(found), parameters)
+            defaults = {key: found[key].default for key in found if name not in ("Label", "Library")}
+            self.assertEqual([defaults.get("library", ()), defaults.get("most", 30)], [(), 30])
+
+    def test_class_values(self):
+        self.assertEqual(vars(live.LiveLibrary)["EMPTY"], ())
+
+    def test_each_method_is_defined_in_the_class_itself(self):
+        for module, name, _, methods, properties in CLASSES:
+            own = vars(getattr(module, name))
+            for method, parameters in methods.items():
+                self.assertIn(method, own)
+                if parameters is not None:
+                    function = getattr(own[method], "__func__", own[method])
+                    found = [key for key in inspect.signature(function).parameters if key not in ("self", "cls")]
+                    self.assertEqual(found, parameters)
+            for key in properties:
+                self.assertIsInstance(own[key], property)
+
+    def test_the_arguments_of_constructors_do_not_change(self):
+        told = [ONE, STYLE, SHELF]
+        before = copy.deepcopy(told)
+        objects.Label(ONE)
+        objects.Library(STYLE, SHELF)
+        for kind in (live.LiveLibrary, kinds.StrictLibrary, kinds.BoundedLibrary, kinds.StrictBoundedLibrary):
+            found = kind(STYLE, SHELF)
+            found.come(TIDES)
+            found.try_changes(("go", 2))
+        self.assertEqual(told, before)
+
+
 class Limits(unittest.TestCase):
     """[2] and [3]: arguments at the limits and beyond are taken, in polynomial time."""
 
@@ -277,9 +358,12 @@ class Example(unittest.TestCase):
     def test_section_9(self):
         self.check(ALIKE_EXAMPLE, "section 9", 6)
 
+    def test_section_14(self):
+        self.check(LIVE_EXAMPLE, "section 14", 10)
+
     def test_the_readme(self):
         text = pathlib.Path(__file__).parent.parent.joinpath("README.md").read_text(encoding="utf-8")
-        self.check(text, "README.md", 21)
+        self.check(text, "README.md", 35)
 
 
 if __name__ == "__main__":
